@@ -1,0 +1,1 @@
+"""Thinlog: pipelines of filters that thin event logs."""
