@@ -4,6 +4,7 @@ Nothing here uses the program. Filters read absolute times and look back at all 
 input events; pipelines are compared by trying logs, or by trying all pairs of histories.
 """
 
+from heapq import heapify, heappop, heappush
 from itertools import combinations, product
 
 FILTERS = (
@@ -24,12 +25,49 @@ SMALL = [
 ]
 SMALL_PIPELINES = [()] + [(one,) for one in SMALL] + list(product(SMALL, repeat=2))
 
+# Pipelines with large products of weights.
+HEAVY = [
+    (("every", 4, 1), ("every", 4, 3), ("every", 3, 1)),
+    (("every", 3, 2), ("every", 2, 1), ("every", 3, 1), ("every", 3, 1)),
+    (("every", 4, 1), ("every", 4, 3), ("every", 2, 0)),
+    (("every", 3, 0), ("every", 4, 3), ("every", 4, 3)),
+    (("every", 3, 2), ("every", 3, 0), ("limit", 1, 6)),
+    (("every", 3, 2), ("every", 4, 0), ("every", 4, 3)),
+    (("limit", 2, 6), ("every", 3, 2)),
+    (("limit", 3, 6), ("every", 3, 1)),
+    (("every", 3, 1), ("limit", 3, 6)),
+    (("limit", 2, 5), ("spaced", 6)),
+    (("limit", 3, 4), ("fresh", 4)),
+    (("spaced", 7), ("fresh", 7)),
+    (("fresh", 7), ("spaced", 7)),
+    (("fresh", 8), ("every", 3, 0), ("spaced", 2)),
+    (("spaced", 5), ("every", 4, 0), ("every", 3, 0)),
+    (("every", 3, 0), ("every", 4, 0), ("spaced", 5)),
+    (("every", 4, 0), ("limit", 3, 5)),
+    (("spaced", 2), ("fresh", 2), ("limit", 1, 3), ("every", 3, 0)),
+]
+
 
 def weight(pipeline):
     total = 1
     for one in pipeline:
         total *= WEIGHTS[one]
     return total
+
+
+def random_log(source, most):
+    times = [source.choice([0, 0, 1, 5, 10 ** 8])]
+    for _ in range(source.randint(0, most)):
+        times.append(times[-1] + source.choice([1, 1, 1, 2, 2, 3, 4, 5, 6, 7, 8, 9, 10, 50]))
+    return tuple(times[:source.randint(0, most)])
+
+
+def random_pipeline(source):
+    while True:
+        many = source.randint(0, 4)
+        pipeline = tuple(source.choice(FILTERS) for _ in range(many))
+        if weight(pipeline) <= 60:
+            return pipeline
 
 
 def keeps(one, earlier, kept, time):
@@ -171,3 +209,145 @@ def searched_difference(first, second):
 
 def searched_counterexample(first, second):
     return search(first, second, [(False, True)])
+
+
+def outlooks(pipeline, widest):
+    """All outlooks behind logs with gaps up to `widest`, found by histories.
+
+    For each there is a list: for each next event its gap, the outlook behind it, and
+    whether it is kept.
+    """
+    first = Run(pipeline)
+    moves = {first.outlook(0): None}
+    open_runs = [(first, 0)]
+    while open_runs:
+        run, now = open_runs.pop()
+        row = []
+        for gap in range(1, widest + 1):
+            after, kept = run.after(now + gap)
+            outlook = after.outlook(now + gap)
+            row.append((gap, outlook, kept))
+            if outlook not in moves:
+                moves[outlook] = None
+                open_runs.append((after, now + gap))
+        moves[run.outlook(now)] = row
+    return moves
+
+
+def behind_kept(moves):
+    return [after for row in moves.values() for _, after, kept in row if kept]
+
+
+def smallest_gap(pipeline):
+    """The nearest next kept event, searched behind all kept events in the order of time."""
+    moves = outlooks(pipeline, 10)
+    queue = [(0, at, outlook) for at, outlook in enumerate(behind_kept(moves))]
+    heapify(queue)
+    number = len(queue)
+    done = set()
+    best = None
+    while queue:
+        time, _, outlook = heappop(queue)
+        if outlook in done:
+            continue
+        done.add(outlook)
+        for gap, after, kept in moves[outlook]:
+            if kept and (best is None or time + gap < best):
+                best = time + gap
+            if not kept:
+                number += 1
+                heappush(queue, (time + gap, number, after))
+    return best
+
+
+class Endless(Exception):
+    pass
+
+
+def largest_gap(pipeline, limit):
+    """The farthest next kept event, searched through all ways of dropped events."""
+    moves = outlooks(pipeline, limit)
+    useful = {at for at, row in moves.items() if any(kept for _, _, kept in row)}
+    many = 0
+    while many < len(useful):
+        many = len(useful)
+        useful |= {at for at, row in moves.items() if any(after in useful for _, after, _ in row)}
+    busy = set()
+    known = {}
+
+    def farthest(outlook):
+        if outlook in busy:
+            raise Endless
+        if outlook not in known:
+            busy.add(outlook)
+            known[outlook] = max(
+                gap if kept else gap + farthest(after)
+                for gap, after, kept in moves[outlook] if kept or after in useful
+            )
+            busy.discard(outlook)
+        return known[outlook]
+
+    try:
+        return max([farthest(outlook) for outlook in behind_kept(moves) if outlook in useful] + [0])
+    except Endless:
+        return None
+
+
+def most_in_window(pipeline, width):
+    """The most kept events in a window that begins with a kept one, tried for all of them."""
+    moves = outlooks(pipeline, 10)
+    known = {}
+
+    def most(outlook, room):
+        if (outlook, room) not in known:
+            known[(outlook, room)] = max(
+                [kept + most(after, room - gap) for gap, after, kept in moves[outlook] if gap <= room],
+                default=0,
+            )
+        return known[(outlook, room)]
+
+    return max([1 + most(outlook, width - 1) for outlook in behind_kept(moves)], default=0)
+
+
+def regular(pipeline, period, many):
+    """Whether each of the first events of the regular log is kept."""
+    log = tuple(at * period for at in range(many))
+    kept = set(keep(pipeline, log))
+    return [time in kept for time in log]
+
+
+def rhythm(kept):
+    """The rhythm that the first decisions show: each is tried that fits into a third of them."""
+    third = len(kept) // 3
+    for length in range(1, third):
+        unlike = [at for at in range(len(kept) - length) if kept[at] != kept[at + length]]
+        begin = unlike[-1] + 1 if unlike else 0
+        if begin < third:
+            return begin, length, sum(kept[begin:begin + length])
+    return None
+
+
+def sources(pipeline, times, last, fixed=None):
+    """How many logs up to `last` leave exactly `times`, and the first of the shortest of them.
+
+    `fixed` tells for some times whether there must be an event. Histories with the same
+    outlook are taken together.
+    """
+    fixed = fixed or {}
+    groups = [(Run(pipeline), 1, (0, ()))]
+    for time in range(last + 1):
+        found = {}
+        for run, many, (events, log) in groups:
+            after, kept = run.after(time)
+            choices = []
+            if time not in times and not fixed.get(time, False):
+                choices.append((run, (events, log)))
+            if kept == (time in times) and fixed.get(time, True):
+                choices.append((after, (events + 1, log + (time,))))
+            for one, best in choices:
+                outlook = one.outlook(time)
+                _, others, other = found.get(outlook, (one, 0, best))
+                found[outlook] = (one, others + many, min(best, other))
+        groups = list(found.values())
+    logs = [best for _, _, best in groups]
+    return sum(many for _, many, _ in groups), min(logs)[1] if logs else None

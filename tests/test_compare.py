@@ -9,28 +9,6 @@ from thinlog.compare import contains, counterexample, equal, first_difference
 
 NOTHING = (("every", 2, 1), ("limit", 1, 1))
 
-# Pairs of pipelines with large products of weights.
-HEAVY = [
-    (("every", 4, 1), ("every", 4, 3), ("every", 3, 1)),
-    (("every", 3, 2), ("every", 2, 1), ("every", 3, 1), ("every", 3, 1)),
-    (("every", 4, 1), ("every", 4, 3), ("every", 2, 0)),
-    (("every", 3, 0), ("every", 4, 3), ("every", 4, 3)),
-    (("every", 3, 2), ("every", 3, 0), ("limit", 1, 6)),
-    (("every", 3, 2), ("every", 4, 0), ("every", 4, 3)),
-    (("limit", 2, 6), ("every", 3, 2)),
-    (("limit", 3, 6), ("every", 3, 1)),
-    (("every", 3, 1), ("limit", 3, 6)),
-    (("limit", 2, 5), ("spaced", 6)),
-    (("limit", 3, 4), ("fresh", 4)),
-    (("spaced", 7), ("fresh", 7)),
-    (("fresh", 7), ("spaced", 7)),
-    (("fresh", 8), ("every", 3, 0), ("spaced", 2)),
-    (("spaced", 5), ("every", 4, 0), ("every", 3, 0)),
-    (("every", 3, 0), ("every", 4, 0), ("spaced", 5)),
-    (("every", 4, 0), ("limit", 3, 5)),
-    (("spaced", 2), ("fresh", 2), ("limit", 1, 3), ("every", 3, 0)),
-]
-
 
 class CompareCase(unittest.TestCase):
 
@@ -112,7 +90,7 @@ class EqualTest(CompareCase):
     """Equal pipelines, written differently."""
 
     def test_with_themselves(self):
-        for pipeline in [(one,) for one in plain.FILTERS] + plain.SMALL_PIPELINES + HEAVY:
+        for pipeline in [(one,) for one in plain.FILTERS] + plain.SMALL_PIPELINES + plain.HEAVY:
             self.check(pipeline, pipeline, None, None)
 
     def test_written_differently(self):
@@ -196,7 +174,7 @@ class HistorySearchTest(CompareCase):
             self.check_searched((first,), (second,))
 
     def test_heavy_pairs(self):
-        for first, second in product(HEAVY, repeat=2):
+        for first, second in product(plain.HEAVY, repeat=2):
             self.check_searched(first, second)
 
     def test_random_pairs(self):
@@ -212,9 +190,9 @@ class HistorySearchTest(CompareCase):
                 done += 1
 
     def test_longest_logs(self):
-        self.assertEqual(len(first_difference(HEAVY[0], HEAVY[1])), 78)
-        self.assertEqual(len(counterexample(HEAVY[0], HEAVY[1])), 84)
-        self.assertEqual(len(counterexample(HEAVY[2], HEAVY[3])), 94)
+        self.assertEqual(len(first_difference(plain.HEAVY[0], plain.HEAVY[1])), 78)
+        self.assertEqual(len(counterexample(plain.HEAVY[0], plain.HEAVY[1])), 84)
+        self.assertEqual(len(counterexample(plain.HEAVY[2], plain.HEAVY[3])), 94)
 
 
 class ResultTest(unittest.TestCase):
@@ -231,12 +209,13 @@ class ResultTest(unittest.TestCase):
 
     def test_same_answer_again(self):
         for function in (first_difference, equal, counterexample, contains):
-            before = function(HEAVY[0], HEAVY[1])
-            function(HEAVY[4], HEAVY[5])
-            self.assertEqual(function(HEAVY[0], HEAVY[1]), before)
+            before = function(plain.HEAVY[0], plain.HEAVY[1])
+            function(plain.HEAVY[4], plain.HEAVY[5])
+            self.assertEqual(function(plain.HEAVY[0], plain.HEAVY[1]), before)
 
     def test_order_of_arguments(self):
-        pairs = list(product(HEAVY, repeat=2)) + list(product(plain.SMALL_PIPELINES[::2], repeat=2))
+        pairs = list(product(plain.HEAVY, repeat=2))
+        pairs += list(product(plain.SMALL_PIPELINES[::2], repeat=2))
         for first, second in pairs:
             self.assertEqual(first_difference(first, second), first_difference(second, first))
             self.assertIs(equal(first, second), equal(second, first))

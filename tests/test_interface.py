@@ -23,6 +23,30 @@ INTERFACE = {
         "counterexample": ["first", "second"],
         "contains": ["first", "second"],
     },
+    "simplify": {
+        "redundant_filters": ["pipeline"],
+        "commute": ["one", "other"],
+        "shortest_part": ["pipeline"],
+        "single_filter": ["pipeline"],
+        "normal_form": ["pipeline"],
+    },
+    "bounds": {
+        "smallest_gap": ["pipeline"],
+        "largest_gap": ["pipeline", "limit"],
+        "most_in_window": ["pipeline", "width"],
+    },
+    "regular": {
+        "rhythm": ["pipeline", "period"],
+        "kept_before": ["pipeline", "period", "number"],
+        "kept_index": ["pipeline", "period", "rank"],
+    },
+    "unknown": {
+        "possible_last": ["pipeline", "name", "log", "kept"],
+        "possible_values": ["pipeline", "index", "log", "kept"],
+        "fewest_events": ["pipeline", "times"],
+        "count_sources": ["pipeline", "times", "last"],
+        "source_events": ["pipeline", "times", "last"],
+    },
 }
 
 
@@ -67,7 +91,10 @@ class FilesTest(unittest.TestCase):
                 self.assertNotIsInstance(node, ast.Import, name)
                 if isinstance(node, ast.ImportFrom):
                     self.assertEqual(node.level, 0, name)
-                    self.assertTrue(node.module.startswith("thinlog."), name)
+                    if node.module == "itertools":
+                        self.assertEqual([one.name for one in node.names], ["combinations"], name)
+                    else:
+                        self.assertTrue(node.module.startswith("thinlog."), name)
 
 
 if __name__ == "__main__":

@@ -11,21 +11,6 @@ EXAMPLE = (("spaced", 3), ("every", 2, 0))
 EXAMPLE_LOG = (0, 2, 3, 7, 8)
 
 
-def random_log(source, most):
-    times = [source.choice([0, 0, 1, 5, 10 ** 8])]
-    for _ in range(source.randint(0, most)):
-        times.append(times[-1] + source.choice([1, 1, 1, 2, 2, 3, 4, 5, 6, 7, 8, 9, 10, 50]))
-    return tuple(times[:source.randint(0, most)])
-
-
-def random_pipeline(source):
-    while True:
-        many = source.randint(0, 4)
-        pipeline = tuple(source.choice(plain.FILTERS) for _ in range(many))
-        if plain.weight(pipeline) <= 60:
-            return pipeline
-
-
 class ThinningCase(unittest.TestCase):
 
     def check(self, pipeline, log):
@@ -112,7 +97,7 @@ class ComparedTest(ThinningCase):
     def test_each_filter_on_a_long_log(self):
         source = random.Random(11)
         for one in plain.FILTERS:
-            self.check((one,), random_log(source, 40))
+            self.check((one,), plain.random_log(source, 40))
             self.check((one,), tuple(range(30)))
 
     def test_small_pipelines(self):
@@ -124,7 +109,7 @@ class ComparedTest(ThinningCase):
     def test_random_pipelines(self):
         source = random.Random(12)
         for _ in range(1500):
-            self.check(random_pipeline(source), random_log(source, 24))
+            self.check(plain.random_pipeline(source), plain.random_log(source, 24))
 
     def test_logs_of_200_events(self):
         source = random.Random(13)
@@ -132,7 +117,7 @@ class ComparedTest(ThinningCase):
             times = [0]
             while len(times) < 200:
                 times.append(times[-1] + source.randint(1, 9))
-            self.check(random_pipeline(source), tuple(times))
+            self.check(plain.random_pipeline(source), tuple(times))
 
     def test_last_times(self):
         log = (0, 10 ** 9 - 9, 10 ** 9 - 3, 10 ** 9)

@@ -5,6 +5,9 @@ MOST_WEIGHT = 60
 MOST_EVENTS = 200
 LAST_TIME = 1000000000
 
+# The largest value of any parameter, which is also the largest one of "spaced" and "fresh".
+LARGEST_PARAMETER = 8
+
 # The smallest and the largest value of each parameter.
 BOUNDS = {
     "spaced": ((1, 8),),
@@ -51,6 +54,14 @@ def is_log(value):
     return all([value[at] < value[at + 1] for at in range(len(value) - 1)])
 
 
+def all_filters():
+    """Return the list of all filters in ascending order."""
+    numbers = range(LARGEST_PARAMETER + 1)
+    short = [(name, n) for name in BOUNDS for n in numbers]
+    long = [one + (k,) for one in short for k in numbers]
+    return sorted([one for one in short + long if is_filter(one)])
+
+
 def is_between(value, low, high):
     """Tell whether the value is an integer, no boolean, from low to high."""
     # Python counts True and False as integers, the document does not.
@@ -66,6 +77,11 @@ def weight(one):
     if one[0] == "limit":
         return one[1] * one[2]
     return one[1]
+
+
+def span(one):
+    """Return the largest gap after an event at which a "spaced" or "fresh" filter drops the next."""
+    return hold(one) - 1
 
 
 def hold(one):
